@@ -1,0 +1,1 @@
+"""Mostspent: whether one number bounds what all words cost."""

@@ -1,0 +1,26 @@
+"""The functions that the document lists: in which file they are defined, and their arguments."""
+
+import importlib
+import inspect
+import unittest
+
+FUNCTIONS = {
+    "mostspent.machines": {"fault": ["machine"], "applied": ["action", "counters"]},
+    "mostspent.notation": {"format_machine": ["machine"], "parse_machine": ["text"]},
+    "mostspent.costs": {"cost": ["machine", "word"], "cheapest": ["machine", "word"]},
+}
+
+
+class Interface(unittest.TestCase):
+    def test_functions_are_defined_where_they_are_listed_and_have_the_listed_arguments(self):
+        for module, functions in FUNCTIONS.items():
+            for name, arguments in functions.items():
+                with self.subTest(module=module, name=name):
+                    function = getattr(importlib.import_module(module), name)
+                    self.assertTrue(inspect.isfunction(function))
+                    self.assertEqual(function.__module__, module)
+                    self.assertEqual(list(inspect.signature(function).parameters), arguments)
+
+
+if __name__ == "__main__":
+    unittest.main()
