@@ -8,6 +8,18 @@ FUNCTIONS = {
     "mostspent.machines": {"fault": ["machine"], "applied": ["action", "counters"]},
     "mostspent.notation": {"format_machine": ["machine"], "parse_machine": ["text"]},
     "mostspent.costs": {"cost": ["machine", "word"], "cheapest": ["machine", "word"]},
+    "mostspent.tables": {
+        "best": ["values"],
+        "along": ["first", "second"],
+        "letter_table": ["machine", "letter"],
+        "in_sequence": ["first", "second"],
+        "is_stable": ["table"],
+        "repeated": ["table"],
+        "best_value": ["machine", "table"],
+    },
+    "mostspent.recipes": {"tables_of": ["machine", "recipe"], "word_of": ["recipe", "times"]},
+    "mostspent.catalogues": {"catalogue": ["machine"], "verdict": ["machine"]},
+    "mostspent.judges": {"judge_catalogue": ["machine", "entries"]},
 }
 
 
