@@ -28,6 +28,9 @@ def table_of_line(machine, line, tables):
 
 def word_of(recipe, times):
     """The word of the recipe, in which `often` repeats words this number of times. Raises WordTooLong."""
+    if not recipe:
+        # There is no last line, whose word it would be.
+        return []
     lengths = _lengths(recipe, times)
     if lengths[-1] > MOST_LETTERS_IN_WORD:
         raise WordTooLong("the word of the recipe is too long")

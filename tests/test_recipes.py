@@ -208,6 +208,14 @@ class Words(unittest.TestCase):
         self.assertEqual(word_of((("letter", 0), ("often", 0), ("both", 0, 1)), 0), [0])
         self.assertEqual(word_of((("letter", 0),) * 1100, 1), [0])
 
+    def test_a_recipe_without_lines_raises_no_error(self):
+        for times in (0, 1, 2, 3, 1000, 1001):
+            found = word_of((), times)
+            self.assertEqual(found, [])
+            found.append(0)
+            self.assertEqual(word_of((), times), [])
+        self.assertEqual(tables_of(MACHINE, ()), [])
+
 
 if __name__ == "__main__":
     unittest.main()
