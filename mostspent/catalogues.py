@@ -8,10 +8,19 @@ MOST_ENTRIES = 100
 
 def catalogue(machine):
     """The catalogue of the machine. Raises TooManyTables."""
+    letters = [(letter_table(machine, letter),) for letter in range(machine[2])]
+    return [(made, tables[0]) for made, tables in closed(letters)]
+
+
+def closed(letters):
+    """The entries (made, tables) of all that can be made from the letters. Raises TooManyTables.
+
+    What stands for a letter, and then in each entry, is a tuple of one table or of several side by side.
+    """
     entries = []
     known = {}
-    for letter in range(machine[2]):
-        _add(entries, known, ("letter", letter), letter_table(machine, letter))
+    for letter, tables in enumerate(letters):
+        _add(entries, known, ("letter", letter), tables)
     number = 0
     while number < len(entries):
         _add_made_with(entries, known, number)
@@ -21,28 +30,37 @@ def catalogue(machine):
 
 def _add_made_with(entries, known, number):
     """Add what is made from the entry with this number, alone and with each entry up to it."""
-    table = entries[number][1]
-    if is_stable(table):
-        _add(entries, known, ("often", number), repeated(table))
+    tables = entries[number][1]
+    if all([is_stable(table) for table in tables]):
+        _add(entries, known, ("often", number), tuple([repeated(table) for table in tables]))
     for earlier in range(number + 1):
-        other = entries[earlier][1]
-        _add(entries, known, ("both", number, earlier), in_sequence(table, other))
-        _add(entries, known, ("both", earlier, number), in_sequence(other, table))
+        others = entries[earlier][1]
+        _add(entries, known, ("both", number, earlier), _each_in_sequence(tables, others))
+        _add(entries, known, ("both", earlier, number), _each_in_sequence(others, tables))
 
 
-def _add(entries, known, made, table):
-    """Add an entry, unless its table is known, that is, in the list already."""
-    if table in known:
+def _each_in_sequence(firsts, seconds):
+    """Each of the first tables in sequence with the second one at its side."""
+    return tuple([in_sequence(first, second) for first, second in zip(firsts, seconds)])
+
+
+def _add(entries, known, made, tables):
+    """Add an entry, unless its tables are known, that is, in the list already."""
+    if tables in known:
         return
     if len(entries) == MOST_ENTRIES:
         raise TooManyTables("the catalogue would have too many entries")
-    known[table] = True
-    entries.append((made, table))
+    known[tables] = True
+    entries.append((made, tables))
 
 
 def verdict(machine):
     """Whether the machine is bounded or grows, with the number of entries. Raises TooManyTables."""
-    entries = catalogue(machine)
+    return verdict_on(machine, catalogue(machine))
+
+
+def verdict_on(machine, entries):
+    """The verdict on the machine, whose catalogue has these entries."""
     for number, (_, table) in enumerate(entries):
         if grows(machine, table):
             return (GROWS, len(entries), recipe_of(entries, number))

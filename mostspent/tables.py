@@ -3,9 +3,14 @@
 GROWS = "grows"
 
 
+def is_action(value):
+    """Whether the value is an action."""
+    return value is not None and value != GROWS
+
+
 def best(values):
     """The best of the values, None if there are none."""
-    actions = [value for value in values if value is not None and value != GROWS]
+    actions = [value for value in values if is_action(value)]
     if actions:
         return min(actions, key=_rank)
     return GROWS if GROWS in values else None
@@ -55,16 +60,18 @@ def is_stable(table):
 
 def repeated(table):
     """The stable table repeated."""
+    return in_sequence(then_staying(table), table)
+
+
+def then_staying(table):
+    """The stable table whose values are each in sequence with staying at the state that they lead to."""
     stays = [_staying(row[state]) for state, row in enumerate(table)]
-    to_stays = tuple([tuple([along(value, stay) for value, stay in zip(row, stays)]) for row in table])
-    return in_sequence(to_stays, table)
+    return tuple([tuple([along(value, stay) for value, stay in zip(row, stays)]) for row in table])
 
 
 def _staying(value):
     """What staying at a state can do at best, for the value from this state to itself."""
-    if value is None or value == GROWS:
-        return value
-    return value if value % 2 == 0 else GROWS
+    return GROWS if is_action(value) and value % 2 == 1 else value
 
 
 def best_value(machine, table):

@@ -74,24 +74,32 @@ def all_tables(machine, most):
     return found
 
 
-def listed(machine):
-    """The catalogue, however long, found from lists of the lines that are tried, in the order of point 17."""
-    lines, tables = [], []
+def tried_in_turn(letters, made, most):
+    """The lists of lines and of what they make, in the order of point 17, found from lists of the lines that are tried.
+
+    What a line makes is made(line, what was made before), None if it makes nothing; it ends at more than `most`.
+    """
+    lines, found = [], []
     tried = 0
-    waiting = [("letter", letter) for letter in range(machine[2])]
-    while waiting:
+    waiting = [("letter", letter) for letter in range(letters)]
+    while waiting and len(found) <= most:
         for line in waiting:
-            table = table_of(machine, line, tables)
-            if table is not None and table not in tables:
+            new = made(line, found)
+            if new is not None and new not in found:
                 lines.append(line)
-                tables.append(table)
+                found.append(new)
         waiting = []
         if tried < len(lines):
             waiting.append(("often", tried))
             for other in range(tried + 1):
                 waiting.extend([("both", tried, other), ("both", other, tried)])
         tried += 1
-    return list(zip(lines, tables))
+    return lines, found
+
+
+def listed(machine):
+    """The catalogue, if it has at most 1000 entries."""
+    return list(zip(*tried_in_turn(machine[2], lambda line, tables: table_of(machine, line, tables), 1000)))
 
 
 def value_of(machine, table):

@@ -20,6 +20,21 @@ FUNCTIONS = {
     "mostspent.recipes": {"tables_of": ["machine", "recipe"], "word_of": ["recipe", "times"]},
     "mostspent.catalogues": {"catalogue": ["machine"], "verdict": ["machine"]},
     "mostspent.judges": {"judge_catalogue": ["machine", "entries"]},
+    "mostspent.trees": {
+        "judge_tree": ["machine", "tree", "threshold"],
+        "tree_run": ["machine", "tree", "threshold", "before", "after"],
+    },
+    "mostspent.bounds": {
+        "enough": ["machine", "number"],
+        "word_above": ["machine", "number"],
+        "least_bound": ["machine", "most"],
+    },
+    "mostspent.twins": {"within": ["first", "second"]},
+    "mostspent.powers": {
+        "power_machine": ["machine"],
+        "powers": ["machine"],
+        "least_power": ["machine", "most"],
+    },
 }
 
 

@@ -3,19 +3,28 @@
 import random
 import unittest
 
+from mostspent.bounds import enough, least_bound, word_above
 from mostspent.catalogues import catalogue, verdict
 from mostspent.costs import cheapest, cost
-from mostspent.errors import TooManyTables
+from mostspent.errors import DifferentLetters, NoBound, TooManyPossibilities, TooManyTables
 from mostspent.judges import judge_catalogue
 from mostspent.machines import applied, fault
 from mostspent.notation import format_machine
+from mostspent.powers import least_power, power_machine, powers
 from mostspent.recipes import tables_of, word_of
 from mostspent.tables import best_value, in_sequence, is_stable, letter_table, repeated
+from mostspent.trees import judge_tree, tree_run
+from mostspent.twins import within
 
 FREE = (1, 0, 1, ((0, 0, 0, 0),), (0,), (0,))
 
 # Each is beyond one limit of point 1 or beyond several.
-BELOW = ((0, 1, 1, (), (), ()), (1, -1, 1, ((0, 0, 0, 0),), (0,), (0,)), (1, 1, 0, (), (0,), (0,)), (0, 0, 0, (), (), ()))
+BELOW = (
+    (0, 1, 1, (), (), ()),
+    (1, -1, 1, ((0, 0, 0, 0),), (0,), (0,)),
+    (1, 1, 0, (), (0,), (0,)),
+    (0, 0, 0, (), (), ()),
+)
 ABOVE = (
     (7, 1, 2, tuple((k % 2, k, (k + 1) % 7, k % 3) for k in range(7)), (0, 6), (6, 1)),
     (2, 4, 1, ((0, 0, 1, 7), (0, 1, 0, 8), (0, 1, 1, 1)), (0,), (0, 1)),
@@ -112,6 +121,57 @@ class NoErrors(unittest.TestCase):
             again = judge_catalogue(machine, entries * (1001 // max(len(entries), 1)))
             self.assertEqual(again, answer)
         self.assertGreater(bounded, 50)
+
+    def test_trees(self):
+        source = random.Random(11)
+        for machine in machines():
+            lines = [("row", ()) if source.randint(0, 3) == 0 else line for line in recipe_beyond(source)]
+            tree = tuple(("row", (line[1],) * 3) if line[0] == "often" else line for line in lines)
+            for threshold in (-1, 0, 1, 101, 200):
+                found = judge_tree(machine, tree, threshold)
+                for before in range(-1, 8):
+                    for after in range(-1, 8):
+                        run = tree_run(machine, tree, threshold, before, after)
+                        self.assertTrue(run is None or len(run[1]) == len(found[0]))
+
+    def test_bounds(self):
+        for machine in machines():
+            for number in (-1, 0, 3, 21, 30):
+                self.assertIsInstance(enough(machine, number), int)
+                try:
+                    found = word_above(machine, number)
+                except TooManyPossibilities:
+                    continue
+                if found is not None:
+                    self.assertGreater(cost(machine, found), number)
+            for most in (-1, 25):
+                try:
+                    least_bound(machine, most)
+                except (NoBound, TooManyPossibilities):
+                    pass
+
+    def test_twins(self):
+        chosen = machines()
+        for first, second in zip(chosen, chosen[1:] + chosen[:1]):
+            for other in (first, second):
+                try:
+                    self.assertIn(within(first, other)[0], ("not", "empty", "within"))
+                except TooManyTables:
+                    pass
+                except DifferentLetters:
+                    self.assertNotEqual(first[2], other[2])
+
+    def test_powers(self):
+        for machine in machines():
+            self.assertEqual(len(power_machine(machine)), 6)
+            try:
+                self.assertIn(powers(machine)[0], ("bounded", "grows"))
+            except TooManyTables:
+                pass
+            try:
+                least_power(machine, 22)
+            except (NoBound, TooManyPossibilities):
+                pass
 
 
 if __name__ == "__main__":
