@@ -15,7 +15,7 @@ def fault(machine):
         return "counters"
     if not 1 <= letters <= MOST_LETTERS:
         return "letters"
-    if len(steps) > MOST_STEPS or not all([_is_step(machine, step) for step in steps]):
+    if len(steps) > MOST_STEPS or not all([is_step(machine, step) for step in steps]):
         return "steps"
     if not _are_distinct_states(states, firsts):
         return "firsts"
@@ -24,7 +24,7 @@ def fault(machine):
     return None
 
 
-def _is_step(machine, step):
+def is_step(machine, step):
     """Whether the step has the form of a step of the machine."""
     states, counters, letters, _, _, _ = machine
     if len(step) != 4:

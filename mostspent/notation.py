@@ -45,15 +45,15 @@ def _parse_line(number, line):
     head = HEADS[number] if number < len(HEADS) else STEP
     words = line.split(" ")
     integers = words[1:]
-    if words[0] != head or not all([_is_integer(word) for word in integers]):
+    if words[0] != head or not all([is_written_integer(word) for word in integers]):
         raise InvalidLine(number)
     if len(integers) != HOW_MANY.get(head, len(integers)):
         raise InvalidLine(number)
     return tuple([int(word) for word in integers])
 
 
-def _is_integer(word):
-    """Whether the word is an integer as it is written in machines."""
+def is_written_integer(word):
+    """Whether the word is an integer as it is written in decimal digits."""
     # isdigit alone would let in the digits of other scripts.
     if not word.isascii() or not word.isdigit() or len(word) > MOST_DIGITS:
         return False

@@ -3,14 +3,19 @@
 import random
 import unittest
 
+from mostspent.bench import Bench
 from mostspent.bounds import enough, least_bound, word_above
 from mostspent.catalogues import catalogue, verdict
+from mostspent.changes import join, renamed
 from mostspent.costs import cheapest, cost
-from mostspent.errors import DifferentLetters, NoBound, TooManyPossibilities, TooManyTables
+from mostspent.errors import DifferentLetters, InvalidMachine, MachineTooLarge, NoBound
+from mostspent.errors import TooManyPossibilities, TooManyTables
 from mostspent.judges import judge_catalogue
 from mostspent.machines import applied, fault
 from mostspent.notation import format_machine
+from mostspent.papers import format_entries, format_recipe, format_table, parse_entries, parse_recipe
 from mostspent.powers import least_power, power_machine, powers
+from mostspent.profiles import profile
 from mostspent.recipes import tables_of, word_of
 from mostspent.tables import best_value, in_sequence, is_stable, letter_table, repeated
 from mostspent.trees import judge_tree, tree_run
@@ -172,6 +177,44 @@ class NoErrors(unittest.TestCase):
                 least_power(machine, 22)
             except (NoBound, TooManyPossibilities):
                 pass
+
+    def test_changes(self):
+        chosen = machines()
+        for first, second in zip(chosen, chosen[1:] + chosen[:1]):
+            try:
+                self.assertLessEqual(join(first, second)[0], 6)
+            except MachineTooLarge:
+                self.assertTrue(first[0] + second[0] > 6 or len(first[3]) + len(second[3]) > 100)
+            for letters in (0, 1, 4, 5, 7):
+                names = tuple(letter % max(letters, 1) for letter in range(first[2] + 1))
+                self.assertEqual(renamed(first, letters, names)[2], letters)
+
+    def test_benches(self):
+        for machine in machines():
+            if fault(machine) is None:
+                self.assertEqual(Bench(machine).machine(), machine)
+            else:
+                with self.assertRaises(InvalidMachine):
+                    Bench(machine)
+
+    def test_papers(self):
+        source = random.Random(12)
+        for machine in machines():
+            recipe = recipe_beyond(source)
+            self.assertIsInstance(format_recipe(recipe), str)
+            entries = [(line, letter_table(machine, 0)) for line in recipe]
+            self.assertIsInstance(format_entries(entries), str)
+            self.assertIsInstance(format_table(letter_table(machine, 0)), str)
+        self.assertEqual(len(parse_recipe("\n".join(["letter 3"] * 1500))), 1500)
+        self.assertEqual(len(parse_entries("\n".join(["letter 3 = 6"] * 1500))), 1500)
+
+    def test_profiles(self):
+        for machine in machines():
+            for length in (-1, 0, 5, 35):
+                try:
+                    self.assertIsInstance(profile(machine, length), list)
+                except TooManyPossibilities:
+                    pass
 
 
 if __name__ == "__main__":

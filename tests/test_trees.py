@@ -275,8 +275,10 @@ class Limits(Judged):
         self.check(TWINS, tree, 0, ([2], ((2, None), (None, None)), 1))
         self.assertEqual(tree_run(TWINS, tree, 0, 0, 0), (2, (6,)))
         self.check(MACHINE, (("letter", 1), ("row", (0,))), 0, ([1], ((GROWS, None), (None, None)), 1))
-        for before, after in ((0, 2), (2, 0), (-1, 0), (0, -1), (5, 5)):
-            self.assertIsNone(tree_run(MACHINE, (("letter", 1),), 2, before, after))
+        self.check_nothing(MACHINE, (("letter", -1),))
+        for before, after in ((0, 2), (2, 0), (-1, 0), (0, -1), (-2, 1), (5, 5)):
+            self.assertIsNone(tree_run(MACHINE, (("letter", 0),), 2, before, after))
+            self.assertIsNone(tree_run(TWINS, (("letter", 0),), 2, before, after))
 
     def test_large_machines(self):
         source = random.Random(50)
@@ -396,6 +398,8 @@ class Runs(unittest.TestCase):
         machine = (2, 2, 1, steps, (0,), (0,))
         self.check(machine, tree, 4, (0, 0), (3, (1, 3, 3, 3, 2)))
         self.check(machine, tree, 5, (0, 0), (3, (0, 0, 0, 0, 0)))
+        self.check(machine, (("letter", 0), ("row", (0, 0))), 1, (0, 0), (3, (1, 2)))
+        self.check(machine, (("letter", 0), ("row", (0, 0))), 2, (0, 0), (3, (0, 0)))
 
     def test_no_run(self):
         self.check(MACHINE, (("letter", 1),), 2, (1, 1), None)
