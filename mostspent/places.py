@@ -12,7 +12,7 @@ def power(base, exponent):
     """The base to the power of the exponent."""
     result = 1
     for _ in range(exponent):
-        result *= base
+        result = result * base
     return result
 
 
@@ -22,7 +22,7 @@ def width(action, base):
 
 
 def grouped_steps(machine, letter):
-    """The steps by the letter that differ in nothing but the state after, as tuples (before, action, states after)."""
+    """The steps by the letter as tuples (before, action, states after), one for each state before and action."""
     afters = {}
     for read, before, after, action in machine[3]:
         if read == letter:
@@ -60,6 +60,6 @@ def _lowered(places, wide):
     below = 1
     while below < wide:
         step = min(below, wide - below)
-        places |= places >> step
+        places = places | (places >> step)
         below += step
     return places

@@ -113,6 +113,6 @@ def _parts_that_stay(numbers, table, before, after):
 
 
 def _middle(first, second, before, after):
-    """The smallest state on the way for which the two tables in sequence have their value there."""
+    """The smallest state by way of which the tables in sequence have their value from the one state to the other."""
     values = [along(value, row[after]) for value, row in zip(first[before], second)]
     return values.index(best(values))

@@ -217,6 +217,10 @@ class Verdicts(unittest.TestCase):
         machine = (1, 1, 3, ((0, 0, 0, 0), (1, 0, 0, 2), (2, 0, 0, 1)), (0,), (0,))
         self.assertEqual([made for made, _ in catalogue(machine)][3], ("often", 2))
         self.assertEqual(verdict(machine), (GROWS, 4, (("letter", 2), ("often", 0))))
+        # Letters 0 and 1 have the same table, so that letter 2 is entry 1 and letter 3, which is not needed, entry 2.
+        machine = (1, 1, 4, ((0, 0, 0, 0), (1, 0, 0, 0), (2, 0, 0, 1), (3, 0, 0, 2)), (0,), (0,))
+        self.assertEqual([made for made, _ in catalogue(machine)][1:], [("letter", 2), ("letter", 3), ("often", 1)])
+        self.assertEqual(verdict(machine), (GROWS, 4, (("letter", 2), ("often", 0))))
 
     def test_a_recipe_in_which_entries_are_left_out_in_between(self):
         # Only letters 0 and 2 in turn can be repeated; with letter 1 there are no runs.

@@ -216,6 +216,10 @@ class Words(unittest.TestCase):
             self.assertEqual(word_of((), times), [])
         self.assertEqual(tables_of(MACHINE, ()), [])
 
+    def test_letters_beyond_those_of_all_machines_have_no_table(self):
+        for letter in (-1, 4, 5):
+            self.assertEqual(tables_of(MACHINE, (("letter", letter), ("both", 0, 0), ("letter", 1))), [None, None, ONE])
+
 
 if __name__ == "__main__":
     unittest.main()
